@@ -1,0 +1,1 @@
+"""Ablehands: works dealt among able hands, evenest."""

@@ -1,0 +1,115 @@
+"""What the tests share: drawn books and deals, things that are none, and whole small worlds."""
+
+import copy
+import itertools
+import random
+
+HUGE = 10 ** 60
+
+# In place of a number, a tuple, or a part of one; none of these is a good number of hands above 3.
+ODD = [
+    None, True, False, -1, 0, 1, 2, 3, 7, 13, HUGE, -HUGE, "", "0", "01", "hands", [], [0], [0, 1], [[0]],
+    (), (0,), (1,), (0, 1), (1, 0), (0, 0), (2,), (True,), (False, 1), (None,), ("0",), ((0,),), ((),),
+    ((0,), (0,)), [(0,)], ([0],), {}, {0: 1}, {0: (0,)}, {"hands": 2}, (2, ()), (2, ((0,), (0, 1))), [2, ()],
+    [[[[[[]]]]]], ((((((0,),),),),),),
+]
+
+
+def subsets(hands):
+    """All works of a book with so many hands."""
+    rows = [list(itertools.combinations(range(hands), size)) for size in range(1, hands + 1)]
+    return [work for row in rows for work in row]
+
+
+def small_books(most_hands, most_works):
+    """All books of no more hands and works than these."""
+    for hands in range(1, most_hands + 1):
+        for many in range(most_works + 1):
+            for works in itertools.product(subsets(hands), repeat=many):
+                yield (hands, works)
+
+
+def all_deals(book):
+    return list(itertools.product(*book[1]))
+
+
+def draw_book(chance, most_hands=6, most_works=12):
+    hands = chance.randint(1, most_hands)
+    works = []
+    for count in range(chance.randint(0, most_works)):
+        works.append(tuple(sorted(chance.sample(range(hands), chance.randint(1, hands)))))
+    return (hands, tuple(works))
+
+
+def draw_deal(chance, book):
+    return tuple([chance.choice(able) for able in book[1]])
+
+
+def drawn(many, seed):
+    """Rows (chance, book): some without works, some as great as they may be, the others drawn."""
+    chance = random.Random(seed)
+    for hands in range(1, 7):
+        yield chance, (hands, ())
+        yield chance, (hands, (tuple(range(hands)),) * 12)
+    for count in range(many):
+        yield chance, draw_book(chance)
+
+
+def spoiled(chance, thing):
+    """The thing with one place in it changed, which may leave it good."""
+    if not isinstance(thing, (tuple, list)) or chance.random() < 0.2:
+        return copy.deepcopy(chance.choice(ODD))
+    parts = list(thing)
+    deed = chance.randint(0, 6)
+    if deed == 0:
+        return parts
+    if deed == 1:
+        parts.insert(chance.randint(0, len(parts)), copy.deepcopy(chance.choice(ODD)))
+    elif deed == 2 and parts:
+        parts.pop(chance.randrange(len(parts)))
+    elif deed == 3:
+        chance.shuffle(parts)
+    elif parts:
+        at = chance.randrange(len(parts))
+        parts[at] = spoiled(chance, parts[at])
+    return tuple(parts)
+
+
+def no_books():
+    """Things that are no book, each by one fault."""
+    return [
+        None, True, 0, 7, HUGE, "", "hands 2", (), (2,), (2, (), ()), [2, ()], {2: ()}, {}, [],
+        (0, ()), (7, ()), (-1, ()), (HUGE, ()), (True, ()), (False, ()), (None, ()), ("2", ()), ((2,), ()),
+        (2, []), (2, None), (2, {}), (2, "01"), (2, 0), (2, [(0,)]), (2, {0: (0,)}),
+        (2, ((),)), (2, ([0],)), (2, (0,)), (2, (None,)), (2, ("0",)), (2, ({0: 1},)), (2, (True,)),
+        (2, ((1, 0),)), (2, ((0, 0),)), (2, ((1, 1),)), (2, ((2,),)), (2, ((-1,),)), (2, ((0, 1, 2),)),
+        (2, ((-1, 0),)), (2, ((HUGE,),)), (2, ((-HUGE, 0),)), (3, ((0, 2, 1),)), (3, ((0, 1, 1, 2),)),
+        (2, ((True,),)), (2, ((False,),)), (2, ((0, True),)), (2, ((False, 1),)), (2, ((None,),)),
+        (2, (("0",),)), (2, ((0, "1"),)), (2, ((0, None),)), (2, (((0,),),)), (2, (([],),)), (2, (({},),)),
+        (2, ((0,),) * 13), (6, ((0, 1, 2, 3, 4, 5),) * 13), (2, ((0,), (0, 1), ())), (2, ((0,), (1, 0), (1,))),
+        (6, ((6,),)), (1, ((1,),)), (1, ((0, 1),)), (2, (2, ())), ((2, ()), ((0,),)),
+    ]
+
+
+# A book and things that are no deal of it, each by one fault.
+BOOK = (3, ((0, 1), (1, 2), (0,)))
+NO_DEALS = [
+    None, True, 0, "", "010", {}, {0: 0}, [], (), (0,), (0, 1), (0, 1, 0, 0), [0, 1, 0], (0, 1, [0]),
+    (2, 1, 0), (0, 0, 0), (0, 1, 1), (0, 1, 3), (0, 1, -1), (-1, 1, 0), (0, HUGE, 0), (0, -HUGE, 0),
+    (False, 1, 0), (True, 1, 0), (0, True, 0), (0, 1, False), (0, 1, None), (None, 1, 0), (0, "1", 0),
+    (0, (1,), 0), ((0, 1), (1, 2), (0,)), (0, {}, 0), ((0, 1, 0),), BOOK,
+]
+
+
+def even_sums(counts):
+    """The sums of the first 0, 1, 2, .. of the numbers, the greatest first."""
+    row = sorted(counts)[::-1]
+    return [sum(row[:many]) for many in range(len(row) + 1)]
+
+
+def counted(book, deal):
+    """The loads, by adding up one work after the other."""
+    many = [0] * book[0]
+    for hand in deal:
+        many[hand] += 1
+    return tuple(many)
