@@ -2,7 +2,11 @@
 
 import copy
 import itertools
+import math
 import random
+import time
+
+from ablehands.errors import DealError, NoBook
 
 HUGE = 10 ** 60
 
@@ -113,3 +117,76 @@ def counted(book, deal):
     for hand in deal:
         many[hand] += 1
     return tuple(many)
+
+
+def shorter(chance, work):
+    return tuple(sorted(chance.sample(work, min(len(work), chance.choice((1, 1, 2, 3))))))
+
+
+def few_deals(many, seed, most=400):
+    """Books drawn of all sizes, all with no more deals than these."""
+    chance = random.Random(seed)
+    books = []
+    while len(books) < many:
+        book = draw_book(chance)
+        if chance.random() < 0.7:
+            # Short works leave a book of many works with few deals.
+            book = (book[0], tuple([shorter(chance, work) for work in book[1]]))
+        if chance.random() < 0.3 and book[1]:
+            book = (book[0], tuple([chance.choice(book[1][:2]) for work in book[1]]))
+        deals = math.prod([len(work) for work in book[1]])
+        # Books with hardly a choice come up often enough.
+        if deals <= most and (deals > 9 or chance.random() < 0.2):
+            books.append(book)
+    return books
+
+
+def evenest_ones(book):
+    """All evenest deals, by a search over all deals."""
+    rows = {deal: even_sums(counted(book, deal)) for deal in all_deals(book)}
+    least = [min(column) for column in zip(*rows.values())]
+    return [deal for deal in rows if rows[deal] == least]
+
+
+def all_ways(book, deal):
+    """All ways of the deal, by trying each next step."""
+    def behind(some, passed):
+        for work, (hand, able) in enumerate(zip(deal, book[1])):
+            for other in able:
+                if hand == passed[-1] and other not in passed:
+                    yield some + [(work, hand, other)]
+                    yield from behind(some + [(work, hand, other)], passed + [other])
+    return [some for first in range(book[0]) for some in behind([], [first])]
+
+
+def refusal(tell, *handed):
+    """The class with which the call refuses, None where it answers; what is handed in must stay as it was."""
+    before = repr(handed)
+    try:
+        tell(*handed)
+        error = None
+    except DealError as e:
+        error = e.__class__
+    assert repr(handed) == before, (tell, before)
+    return error
+
+
+def check_of_a_book(tell):
+    """The call, of a book alone, refuses what is none with NoBook, and no book."""
+    for book in no_books():
+        assert refusal(tell, book) is NoBook, (tell, book)
+    for book in list(small_books(2, 2)) + [FULL]:
+        assert refusal(tell, book) is None, (tell, book)
+    for thing in ODD:
+        assert refusal(tell, thing) in (None, NoBook), (tell, thing)
+
+
+FULL = (6, (tuple(range(6)),) * 12)
+
+
+def in_a_moment(tell, *handed):
+    """What the call answers; it must do so within a second."""
+    begun = time.perf_counter()
+    answer = tell(*handed)
+    assert time.perf_counter() - begun < 1, tell
+    return answer

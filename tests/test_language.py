@@ -57,6 +57,38 @@ class Language(unittest.TestCase):
                         self.assertTrue(node.module.startswith("ablehands.") or node.module == "__future__")
                         self.assertNotIn("*", [drawn.name for drawn in node.names])
 
+    def test_no_two_files_draw_from_one_another(self):
+        drawn = {}
+        for name, text, tree in each():
+            froms = [node.module for node in ast.walk(tree) if isinstance(node, ast.ImportFrom)]
+            drawn[f"ablehands.{name[:-3]}"] = [module for module in froms if module != "__future__"]
+        while drawn:
+            free = [name for name in drawn if not any(module in drawn for module in drawn[name])]
+            self.assertNotEqual(free, [], drawn)
+            for name in free:
+                del drawn[name]
+
+    def test_each_name_is_drawn_from_the_file_that_defines_it(self):
+        defined = {}
+        for name, text, tree in each():
+            names = [node.name for node in tree.body if isinstance(node, (ast.FunctionDef, ast.ClassDef))]
+            names += [to.id for node in tree.body if isinstance(node, ast.Assign) for to in node.targets]
+            defined[f"ablehands.{name[:-3]}"] = names
+        for name, text, tree in each():
+            for node in ast.walk(tree):
+                if isinstance(node, ast.ImportFrom) and node.module != "__future__":
+                    self.assertLessEqual({one.name for one in node.names}, set(defined[node.module]), name)
+
+    def test_no_local_is_called_like_an_import_or_a_class(self):
+        for name, text, tree in each():
+            taken = {one.name for node in tree.body if isinstance(node, ast.ImportFrom) for one in node.names}
+            taken |= {node.name for node in tree.body if isinstance(node, ast.ClassDef)}
+            for node in ast.walk(tree):
+                if isinstance(node, ast.Name) and isinstance(node.ctx, ast.Store):
+                    self.assertNotIn(node.id, taken, name)
+                if isinstance(node, ast.arg):
+                    self.assertNotIn(node.arg, taken, name)
+
     def test_forms(self):
         for name, text, tree in each():
             with self.subTest(file=name):
