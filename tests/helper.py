@@ -104,6 +104,13 @@ NO_DEALS = [
     (0, (1,), 0), ((0, 1), (1, 2), (0,)), (0, {}, 0), ((0, 1, 0),), BOOK,
 ]
 
+# Things that are no weights of BOOK, each by one fault.
+NO_WEIGHTS = [
+    None, True, 0, 3, "", "111", {}, {0: 1}, [], (), (1,), (1, 1), (1, 1, 1, 1), [1, 1, 1], (1, 1, [1]), (1, 1, -1),
+    (-1, 1, 1), (1, 100, 1), (1, HUGE, 1), (1, 1, -HUGE), (True, 1, 1), (1, False, 1), (1, 1, None), (1, "1", 1),
+    (1, (1,), 1), (1, (1, 1), 1), ((1, 1, 1),), (1, {}, 1), (1, 1, ()),
+]
+
 
 def even_sums(counts):
     """The sums of the first 0, 1, 2, .. of the numbers, the greatest first."""
@@ -121,6 +128,13 @@ def counted(book, deal):
 
 def shorter(chance, work):
     return tuple(sorted(chance.sample(work, min(len(work), chance.choice((1, 1, 2, 3))))))
+
+
+def draw_weights(chance, book):
+    """Weights from 0 to 99: any, few different ones, some of them 0, all 0, all alike."""
+    several = ((0,), (1,), (99,), (0, 1), (0, 99), (1, 2, 3), (0, 0, 7, 98), range(100), range(100), range(100))
+    some = chance.choice(several)
+    return tuple([chance.choice(some) for work in book[1]])
 
 
 def few_deals(many, seed, most=400):
