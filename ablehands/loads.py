@@ -3,10 +3,15 @@
 from ablehands.books import need_deal
 
 
+def counted(hands, deal):
+    """For each of so many hands how many works it has; the deal has been looked at already."""
+    return tuple([deal.count(hand) for hand in range(hands)])
+
+
 def loads(book, deal):
     """For each hand how many works it has."""
     need_deal(book, deal)
-    return tuple([deal.count(hand) for hand in range(book[0])])
+    return counted(book[0], deal)
 
 
 def falling(book, deal):

@@ -21,7 +21,7 @@ def handing_parts(takers, held, many):
 
 
 def spread(takers, amounts, rooms):
-    """For each work a dict from hands to how many units they hold of it, so that all rooms are full."""
+    """For each work a dict from hands to how many units they hold of it, no hand more than its room in all."""
     # At first nobody, a hand behind the last one, holds all; shortest ways lead it to hands with room.
     nobody = len(rooms)
     rooms = rooms + [0]

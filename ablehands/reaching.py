@@ -32,3 +32,16 @@ def way_to(found, last):
         some.append(step)
         step = found[step[1]]
     return some[::-1]
+
+
+def steps_to_least(book, deal, able, measures):
+    """Steps that deal one work more, which these hands are able to do, and hand others on for it.
+
+    The first step is that of the work itself, which has the next number and comes from a hand behind the last one.
+    The last step goes to a hand whose measure is the least of all hands that such steps lead to.
+    """
+    nobody = book[0]
+    found = reached(handing(book, deal) + [{hand: len(deal) for hand in able}], nobody)
+    # Of several the one that was found first is told, which has the shortest way.
+    last = min([hand for hand in found if hand != nobody], key=lambda hand: measures[hand])
+    return way_to(found, last)

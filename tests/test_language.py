@@ -115,6 +115,22 @@ class Language(unittest.TestCase):
                     if isinstance(node, ast.arg):
                         self.assertFalse(node.arg.startswith("_") or hasattr(builtins, node.arg), node.arg)
 
+    def test_methods_and_values_of_objects(self):
+        methods = set()
+        values = set()
+        for name, text, tree in each():
+            for node in ast.walk(tree):
+                if isinstance(node, ast.ClassDef):
+                    own = [part.name for part in node.body if isinstance(part, ast.FunctionDef)]
+                    self.assertEqual(len(own), len(set(own)), name)
+                    methods.update(own)
+                if isinstance(node, ast.Attribute) and isinstance(node.ctx, ast.Store):
+                    values.add(node.attr)
+        self.assertEqual(methods & values, set())
+        taken = {name for thing in ("", 0, [], (), {}, set(), b"") for name in dir(thing)}
+        self.assertEqual((methods - {"__init__"}) & taken, set())
+        self.assertEqual(values & taken, set())
+
 
 if __name__ == "__main__":
     unittest.main()
