@@ -10,6 +10,10 @@ from ablehands.errors import DealError, NoBook
 
 HUGE = 10 ** 60
 
+# The signs that texts have, and how a number is written in them.
+SIGNS = [chr(code) for code in range(32, 127) if chr(code) != "%"] + ["\t", "\n"]
+NUMBER = "(?:0|[1-9][0-9]{0,5})"
+
 # In place of a number, a tuple, or a part of one; none of these is a good number of hands above 3.
 ODD = [
     None, True, False, -1, 0, 1, 2, 3, 7, 13, HUGE, -HUGE, "", "0", "01", "hands", [], [0], [0, 1], [[0]],
@@ -111,6 +115,25 @@ NO_WEIGHTS = [
     (1, (1,), 1), (1, (1, 1), 1), ((1, 1, 1),), (1, {}, 1), (1, 1, ()),
 ]
 
+# Things that are no rooms of BOOK, each by one fault.
+NO_ROOMS = [
+    None, True, 0, 3, "", "111", {}, {0: 1}, [], (), (1,), (1, 1), (1, 1, 1, 1), [1, 1, 1], (1, 1, [1]), (1, 1, -1),
+    (-1, 1, 1), (1, 13, 1), (1, HUGE, 1), (1, 1, -HUGE), (True, 1, 1), (1, False, 1), (1, 1, None), (1, "1", 1),
+    (1, (1,), 1), ((1, 1, 1),), (1, {}, 1), (1, 1, ()),
+]
+
+# Things that are no costs of BOOK, each by one fault.
+NO_COSTS = [
+    None, True, 0, 3, "", {}, {0: (1, 1, 1)}, [], (), (1, 1, 1), ((1, 1, 1),), ((1, 1, 1),) * 2, ((1, 1, 1),) * 4,
+    [(1, 1, 1)] * 3, ([1, 1, 1],) * 3, ((1, 1, 1), (1, 1, 1), [1, 1, 1]), ((1, 1, 1), None, (1, 1, 1)),
+    ((1, 1, 1), (1, 1), (1, 1, 1)), ((1, 1, 1), (1, 1, 1, 1), (1, 1, 1)), ((1, 1, 1), (), (1, 1, 1)),
+    ((2, 1, 1), (1, 1, 1), (1, 1, 1)), ((1, 1, 1), (1, 2, 1), (1, 1, 1)), ((1, 1, 1), (1, 1, 1), (9, 9, 8)),
+    ((-1, 1, 1), (1, 1, 1), (1, 1, 1)), ((1, 1, 1), (1, 1, 1000), (1, 1, 1)), ((1, 1, HUGE), (1, 1, 1), (1, 1, 1)),
+    ((1, 1, 1), (-HUGE, 1, 1), (1, 1, 1)), ((True, 1, 1), (1, 1, 1), (1, 1, 1)), ((1, 1, 1), (0, True, 1), (1, 1, 1)),
+    ((1, 1, 1), (1, 1, 1), (False, 1, 1)), ((1, 1, 1), (1, None, 1), (1, 1, 1)), ((1, 1, 1), ("1", 1, 1), (1, 1, 1)),
+    ((1, 1, 1), ((1,), 1, 1), (1, 1, 1)), ((1, 1, 1), {1: 1, 2: 1, 3: 1}, (1, 1, 1)), ((1, 1, 1), "111", (1, 1, 1)),
+]
+
 
 def even_sums(counts):
     """The sums of the first 0, 1, 2, .. of the numbers, the greatest first."""
@@ -135,6 +158,13 @@ def draw_weights(chance, book):
     several = ((0,), (1,), (99,), (0, 1), (0, 99), (1, 2, 3), (0, 0, 7, 98), range(100), range(100), range(100))
     some = chance.choice(several)
     return tuple([chance.choice(some) for work in book[1]])
+
+
+def other_numbers(chance, row):
+    """The tuple of whole numbers with one of them changed, left out or put in."""
+    at = chance.randrange(len(row) + 1)
+    number = chance.choice((-1, 0, 1, 2, HUGE, -HUGE) + tuple([one + more for one in row for more in (-1, 0, 1)]))
+    return row[:at] + chance.choice(((), (number,), (number,), (number,))) + row[at + chance.randint(0, 1):]
 
 
 def few_deals(many, seed, most=400):
@@ -200,7 +230,7 @@ FULL = (6, (tuple(range(6)),) * 12)
 
 def in_a_moment(tell, *handed):
     """What the call answers; it must do so within a second."""
-    begun = time.perf_counter()
+    begun = time.process_time()
     answer = tell(*handed)
-    assert time.perf_counter() - begun < 1, tell
+    assert time.process_time() - begun < 1, tell
     return answer

@@ -4,10 +4,10 @@ import unittest
 
 from ablehands.errors import NoBook, NoText
 from ablehands.texts import read_book, show_book, show_fraction
-from tests.helper import BOOK, FULL, HUGE, check_of_a_book, drawn, in_a_moment, refusal, small_books
+from tests.helper import (
+    BOOK, FULL, HUGE, NUMBER, SIGNS, check_of_a_book, drawn, in_a_moment, refusal, small_books,
+)
 
-SIGNS = [chr(code) for code in range(32, 127) if chr(code) != "%"] + ["\t", "\n"]
-NUMBER = "(?:0|[1-9][0-9]{0,5})"
 TEXT = re.compile(f"hands {NUMBER}(?:; {NUMBER}(?: {NUMBER})*)*")
 
 
